@@ -184,6 +184,11 @@ func valueTextOk(text string) bool {
 	return true
 }
 
+// valueNothing says whether there is nothing of a value.
+func valueNothing(v Value) bool {
+	return v.Sort == 0 && v.Num == 0 && v.Text == "" && len(v.Names) == 0 && len(v.Kids) == 0
+}
+
 func valueHasOnly(v Value) bool {
 	if v.Sort < ValNull || v.Sort > ValUnknown {
 		return false
