@@ -462,6 +462,92 @@ func (r *valueReader) readItems(end string, item func() error) error {
 	return r.fault()
 }
 
+// copyRoom is how many values may be copied once more, of lists that were copied before. Lists of a copy share no memory; but one that has another twice, which has a third one twice, and so on, is soon more than any memory holds, and from there on it is shared in the copy as it was.
+const copyRoom = 1 << 20
+
+// listPlace is where a list begins, and how long it is, which tells it from others.
+type listPlace struct {
+	first *Value
+	size  int
+}
+
+// valueCopy is the copy of a list, and how many of its values are copies, too; it is open as long as some list in it is not.
+type valueCopy struct {
+	list []Value
+	done int
+	open bool
+}
+
+// valueCopier copies values whether they are ok or not: such as hold themselves, and such as are too deep for calls within calls.
+type valueCopier struct {
+	copies map[listPlace]*valueCopy
+	path   []*valueCopy
+	room   int
+}
+
+func newValueCopier() *valueCopier {
+	return &valueCopier{copies: map[listPlace]*valueCopy{}, room: copyRoom}
+}
+
+// copied is a value in new memory.
+func (c *valueCopier) copied(v Value) Value {
+	v = c.renewed(v)
+	for len(c.path) > 0 {
+		c.step()
+	}
+	return v
+}
+
+// renewed is a value of which only what is in its Kids is not copied yet.
+func (c *valueCopier) renewed(v Value) Value {
+	v.Text, v.Names, v.Kids = strings.Clone(v.Text), textsCopied(v.Names), c.begin(v.Kids)
+	return v
+}
+
+// begin is the copy of a list, whose values are copied in the steps that follow.
+func (c *valueCopier) begin(list []Value) []Value {
+	if len(list) == 0 {
+		return nil
+	}
+	which := listPlace{first: &list[0], size: len(list)}
+	if old, again := c.copies[which]; again {
+		// A list within itself can be told only by a copy within itself.
+		if old.open || c.room < len(list) {
+			return old.list
+		}
+		c.room -= len(list)
+	}
+	made := &valueCopy{list: slices.Clone(list), open: true}
+	c.copies[which] = made
+	c.path = append(c.path, made)
+	return made.list
+}
+
+// step copies the next value of the innermost list that is open.
+func (c *valueCopier) step() {
+	last := c.path[len(c.path)-1]
+	if last.done == len(last.list) {
+		last.open = false
+		c.path = c.path[:len(c.path)-1]
+		return
+	}
+	last.list[last.done] = c.renewed(last.list[last.done])
+	last.done++
+}
+
+// valueCopied is a value in new memory.
+func valueCopied(v Value) Value {
+	return newValueCopier().copied(v)
+}
+
+func textsCopied(list []string) []string {
+	var copied []string
+	for _, text := range list {
+		copied = append(copied, strings.Clone(text))
+	}
+	return copied
+}
+
 // valueCompare is below 0, 0 or above 0, as a comes ahead of b, is the same, or comes behind it.
 func valueCompare(a Value, b Value) int {
 	first := cmp.Or(cmp.Compare(a.Sort, b.Sort), cmp.Compare(a.Num, b.Num), strings.Compare(a.Text, b.Text))

@@ -220,11 +220,10 @@ func TestPlanAllByHand(t *testing.T) {
 	if got, done := impl.PlanAll(list, nil, state, nil, []string{"a"}); done != 0 || !sameThings(got, state) {
 		t.Errorf("no acts: %d, %v", done, got)
 	}
-	if got, done := impl.PlanAll(list, nil, manyThings(11), acts, nil); done != 0 || got != nil {
+	if got, done := impl.PlanAll(list, nil, manyThings(11), acts, nil); done != 0 || !sameThings(got, manyThings(11)) {
 		t.Errorf("a bad state: %d, %v", done, got)
 	}
-	endless := beings(impl.Thing{Id: "vm.a", Attrs: badValues()[len(badValues())-1]})
-	if got, done := impl.PlanAll(list, nil, endless, nil, nil); done != 0 || got != nil {
+	if got, done := impl.PlanAll(list, nil, beings(being("vm.a", "{}")), nil, nil); done != 0 || !sameThings(got, beings(being("vm.a", "{}"))) {
 		t.Errorf("a bad state, and no acts: %d, %v", done, got)
 	}
 }

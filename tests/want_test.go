@@ -211,30 +211,52 @@ func manyThings(n int) []impl.Thing {
 	return state
 }
 
+// badState is a state that is not ok, and why not.
+type badState struct {
+	why   string
+	state []impl.Thing
+}
+
+// badStates is states that are not ok, some for each of the reasons that chapter 6 gives; each call makes them anew.
+func badStates() []badState {
+	var bad []badState
+	add := func(why string, states ...[]impl.Thing) {
+		for i, state := range states {
+			bad = append(bad, badState{why + " " + strconv.Itoa(i), state})
+		}
+	}
+	add("too many", manyThings(11), manyThings(12), append(manyThings(10), being("zz.z", `{id:"i"}`, "vm.a")), make([]impl.Thing, 11), make([]impl.Thing, 1<<20))
+	add("not ascending", beings(being("vm.b", `{id:"i"}`), being("vm.a", `{id:"i"}`)), beings(being("vm.a", `{id:"i"}`), being("vm.a", `{id:"i"}`)), beings(being("vm.a", `{id:"i"}`), being("vm.c", `{id:"i"}`), being("vm.b", `{id:"i"}`)))
+	add("no id of a thing", make([]impl.Thing, 1), beings(being("vm", `{id:"i"}`)), beings(being("", `{id:"i"}`)), beings(being("vm.A", `{id:"i"}`)), beings(being("vm.a.b", `{id:"i"}`)), beings(being("a", `{id:"i"}`), being("vm.a", `{id:"i"}`)), beings(being(strings.Repeat("a", 100000), `{id:"i"}`)))
+	add("not known whole", beings(being("vm.a", "?")), beings(being("vm.a", "{id:?}")), beings(being("vm.a", `{id:"i",x:?}`)), beings(being("vm.a", `{id:"i",x:[1,?]}`)))
+	add("no object", beings(being("a.b", "999999")), beings(being("vm.a", `"i"`)), beings(being("vm.a", `["id"]`)), beings(being("vm.a", "null")))
+	add("no id given", beings(being("vm.a", "{}")), beings(being("vm.a", `{ida:"i"}`)), beings(being("vm.a", `{id:"i"}`), being("vm.b", `{zone:"i"}`)), beings(being("net.b", `{zone:"eu"}`, "net.b")))
+	add("an id that is no text", beings(being("vm.a", "{id:1}")), beings(being("vm.a", "{id:null}")), beings(being("vm.a", `{id:["i"]}`)))
+	add("a need that is no id", beings(being("vm.a", `{id:"i"}`, "vm")), beings(being("vm.a", `{id:"i"}`, "")), beings(being("vm.a", `{id:"i"}`, "vm.b", "")), beings(being("vm.a", `{id:"i"}`, make([]string, 1000)...)))
+	add("needs not ascending", beings(being("vm.a", `{id:"i"}`, "vm.c", "vm.b")), beings(being("vm.a", `{id:"i"}`, "vm.b", "vm.b")))
+	add("a need of itself", beings(being("vm.a", `{id:"i"}`, "vm.a")), beings(being("vm.a", `{id:"i"}`, "a.a", "vm.a")))
+	add("a ring", beings(being("vm.a", `{id:"i"}`, "vm.b"), being("vm.b", `{id:"i"}`, "vm.a")), beings(being("vm.a", `{id:"i"}`, "vm.b"), being("vm.b", `{id:"i"}`, "vm.c"), being("vm.c", `{id:"i"}`, "vm.a")), beings(being("a.a", `{id:"i"}`), being("vm.b", `{id:"i"}`, "a.a", "vm.c"), being("vm.c", `{id:"i"}`, "vm.b")))
+	for i, v := range badValues() {
+		add("bad value "+strconv.Itoa(i), beings(impl.Thing{Id: "vm.a", Attrs: v, Needs: []string{"vm.b"}}), beings(impl.Thing{Id: "vm.a", Attrs: object("id x", words("i"), v)}), beings(being("a.a", `{id:"i"}`), impl.Thing{Id: "vm.a", Attrs: v}, being("vm.b", `{id:"i",x:[1]}`, "a.a")))
+	}
+	add("all at once", beings(impl.Thing{Id: "", Attrs: impl.Value{Sort: impl.ValText, Num: 7, Text: "x\"", Names: []string{"a", "b"}, Kids: []impl.Value{{Sort: 9, Kids: []impl.Value{words("y"), {Names: []string{"", "A"}}}}}}, Needs: []string{"x", ""}}, being("", "?", "")))
+	return bad
+}
+
 func TestStateOk(t *testing.T) {
 	good := [][]impl.Thing{
 		nil, {}, manyThings(1), manyThings(10), beings(being("vm.a", `{id:""}`)), beings(being("a.b", `{a:[1,[]],id:"1234567890123456",zone:null}`)),
 		beings(being("vm.a", `{id:"i"}`, "a.a", "vm.b", "zz.z"), being("vm.b", `{id:"i"}`, "vm.c"), being("vm.c", `{id:"i"}`)), beings(being("vm.a", `{id:"i"}`), being("vm.b", `{id:"i"}`, "vm.a")), beings(being("vm.a", `{id:"i"}`, "vm.b"), being("vm.c", `{id:"i"}`, "vm.a")),
 		beings(being("a.b", `{id:"i"}`), being("a0.a", `{id:"i"}`), being("aa.a", `{id:"i"}`)),
 	}
-	bad := [][]impl.Thing{
-		manyThings(11), make([]impl.Thing, 1<<20), make([]impl.Thing, 1), beings(being("vm.b", `{id:"i"}`), being("vm.a", `{id:"i"}`)), beings(being("vm.a", `{id:"i"}`), being("vm.a", `{id:"i"}`)),
-		beings(being("vm", `{id:"i"}`)), beings(being("", `{id:"i"}`)), beings(being("vm.A", `{id:"i"}`)), beings(being("vm.a.b", `{id:"i"}`)), beings(being("a", `{id:"i"}`), being("vm.a", `{id:"i"}`)),
-		beings(being("vm.a", "{}")), beings(being("vm.a", "{id:1}")), beings(being("vm.a", "{id:null}")), beings(being("vm.a", "{id:?}")), beings(being("vm.a", `{id:["i"]}`)), beings(being("vm.a", `{id:"i",x:?}`)), beings(being("vm.a", `{id:"i",x:[1,?]}`)), beings(being("vm.a", `"i"`)), beings(being("vm.a", `["id"]`)), beings(being("vm.a", "?")), beings(being("vm.a", "null")), beings(being("vm.a", `{ida:"i"}`)), beings(being("vm.a", `{id:"i"}`), being("vm.b", `{zone:"i"}`)),
-		beings(being("vm.a", `{id:"i"}`, "vm.a")), beings(being("vm.a", `{id:"i"}`, "a.a", "vm.a")), beings(being("vm.a", `{id:"i"}`, "vm.c", "vm.b")), beings(being("vm.a", `{id:"i"}`, "vm.b", "vm.b")), beings(being("vm.a", `{id:"i"}`, "vm")), beings(being("vm.a", `{id:"i"}`, "")), beings(being("vm.a", `{id:"i"}`, "vm.b", "")),
-		beings(being("vm.a", `{id:"i"}`, "vm.b"), being("vm.b", `{id:"i"}`, "vm.a")), beings(being("vm.a", `{id:"i"}`, "vm.b"), being("vm.b", `{id:"i"}`, "vm.c"), being("vm.c", `{id:"i"}`, "vm.a")), beings(being("a.a", `{id:"i"}`), being("vm.b", `{id:"i"}`, "a.a", "vm.c"), being("vm.c", `{id:"i"}`, "vm.b")),
-	}
-	for _, v := range badValues() {
-		bad = append(bad, beings(impl.Thing{Id: "vm.a", Attrs: v}), beings(impl.Thing{Id: "vm.a", Attrs: object("id x", words("i"), v)}))
-	}
 	for i, state := range good {
 		if !impl.StateOk(state) || !modelState(state) {
 			t.Errorf("state %d is not ok", i)
 		}
 	}
-	for i, state := range bad {
-		if impl.StateOk(state) || impl.StateWrite(state) != "" {
-			t.Errorf("state %d is ok", i)
+	for _, bad := range badStates() {
+		if impl.StateOk(bad.state) || impl.StateWrite(bad.state) != "" {
+			t.Errorf("%s: it is ok", bad.why)
 		}
 	}
 }
