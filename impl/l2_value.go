@@ -149,14 +149,19 @@ func nameOk(text string) bool {
 	return true
 }
 
-// namesOk says whether all are names, and ascending.
-func namesOk(list []string) bool {
-	for i, name := range list {
-		if !nameOk(name) || i > 0 && list[i-1] >= name {
+// ascending says whether all texts are such as are let in, and ascending.
+func ascending(list []string, letIn func(string) bool) bool {
+	for i, text := range list {
+		if !letIn(text) || i > 0 && list[i-1] >= text {
 			return false
 		}
 	}
 	return true
+}
+
+// namesOk says whether all are names, and ascending.
+func namesOk(list []string) bool {
+	return ascending(list, nameOk)
 }
 
 // decimalsRead reads a number just as strconv writes it, which leaves out noughts ahead and a stroke ahead of 0.
@@ -172,16 +177,13 @@ func valueNumOk(n int) bool {
 	return n >= -ValueMaxNum && n <= ValueMaxNum
 }
 
+// hidden says whether a rune is none of the bytes 32 to 126. Bytes that make no rune are told as one that is hidden, too.
+func hidden(c rune) bool {
+	return c < 32 || c > 126
+}
+
 func valueTextOk(text string) bool {
-	if len(text) > ValueMaxText {
-		return false
-	}
-	for i := range len(text) {
-		if c := text[i]; c < 32 || c > 126 || c == '"' {
-			return false
-		}
-	}
-	return true
+	return len(text) <= ValueMaxText && !strings.Contains(text, `"`) && !strings.ContainsFunc(text, hidden)
 }
 
 // valueNothing says whether there is nothing of a value.
